@@ -181,6 +181,35 @@ func TestPlaces(t *testing.T) {
 	}
 }
 
+// P1.5: wherever End stands among the items, the error that it answers is the reader's own, and persists.
+func TestEndIsRecorded(t *testing.T) {
+	eachText("\x00\x01\x02\x80", 5, func(s string) {
+		for items := range 4 {
+			r := reader(t, s)
+			for i := range items {
+				if i%2 == 0 {
+					r.Num(0, 9)
+				} else {
+					r.Text(9)
+				}
+			}
+			at, e := r.At(), r.End()
+			if e == api.OK && at != len(s) {
+				t.Fatalf("% x: nothing is left at %d", s, at)
+			}
+			for range 2 {
+				wantAt(t, r, at, e)
+				if again := r.End(); again != e {
+					t.Fatalf("% x: %v, then %v", s, e, again)
+				}
+			}
+			if n, text := r.Num(0, 9), r.Text(9); n != 0 || text != "" {
+				t.Fatalf("% x: read after End: %d, %q", s, n, text)
+			}
+		}
+	})
+}
+
 // P1.6: whatever the bytes, a number has at most nine of them.
 func TestNumLongest(t *testing.T) {
 	for size := range 20 {

@@ -109,12 +109,16 @@ func (r *Reader) At() int {
 	return r.at
 }
 
-// End says whether nothing is left. It only looks: that bytes are left is told, not recorded, so that reading may go on.
+// End says whether nothing is left. That bytes are left is an error like any other: it is recorded, lest the reader be taken for sound after it.
 func (r *Reader) End() (e api.Errno) {
 	if r == nil {
 		return api.ErrNil
 	}
-	defer func() { e = caught(recover()).e }()
+	defer func() {
+		f := caught(recover())
+		r.record(f)
+		e = f.e
+	}()
 	r.demandSound()
 	if r.at < len(r.data) {
 		panic(fault{r.at, api.ErrLong})

@@ -163,28 +163,74 @@ func TestErrorPersists(t *testing.T) {
 	}
 }
 
-// P1.2: End looks, and records nothing.
+// P1.2: End of a reader that has read everything, and of one with an error.
 func TestEnd(t *testing.T) {
-	if e := reader(t, "").End(); e != api.OK {
-		t.Error("of no bytes:", e)
-	}
-	r := reader(t, "\x05\x06")
-	for i, want := range []api.Errno{api.ErrLong, api.ErrLong, api.OK} {
-		for range 2 {
-			if e := r.End(); e != want {
-				t.Errorf("at %d: %v, want %v", i, e, want)
-			}
-			wantAt(t, r, i, api.OK)
+	r := reader(t, "")
+	for range 2 {
+		if e := r.End(); e != api.OK {
+			t.Error("of no bytes:", e)
 		}
-		if i < 2 && r.Num(0, 9) != 5+i {
-			t.Error("Num after End, at", i)
-		}
+		wantAt(t, r, 0, api.OK)
 	}
-	r = reader(t, "")
 	r.Num(0, 9)
 	if e := r.End(); e != api.ErrShort {
 		t.Error("after an error:", e)
 	}
+	wantAt(t, r, 0, api.ErrShort)
+	r = reader(t, "\x05\x01a")
+	r.Num(0, 9)
+	r.Text(9)
+	for range 2 {
+		if e := r.End(); e != api.OK {
+			t.Error("at the end:", e)
+		}
+		wantAt(t, r, 3, api.OK)
+	}
+}
+
+// P1.2, P1.5: that bytes are left persists, at the first of them, wherever End was called.
+func TestEndPersists(t *testing.T) {
+	for items := range 3 {
+		r := reader(t, "\x05\x06\x01a")
+		for i := range items {
+			if n := r.Num(0, 9); n != 5+i {
+				t.Error("Num before End:", n)
+			}
+		}
+		for range 2 {
+			if e := r.End(); e != api.ErrLong {
+				t.Errorf("End at %d: %v", items, e)
+			}
+			wantAt(t, r, items, api.ErrLong)
+			if n, s := r.Num(0, 9), r.Text(9); n != 0 || s != "" {
+				t.Errorf("read after End at %d: %d, %q", items, n, s)
+			}
+			for place := -1; place <= 1; place++ {
+				if e := r.Fail(place, api.ErrForm); e != api.ErrLong {
+					t.Errorf("Fail(%d) after End at %d: %v", place, items, e)
+				}
+			}
+			wantAt(t, r, items, api.ErrLong)
+		}
+	}
+}
+
+// P1.2, P1.5: after a Fail that was refused, End still finds what is left; after one that was not, End answers its error.
+func TestEndAfterFail(t *testing.T) {
+	r := reader(t, "\x05\x06")
+	r.Num(0, 9)
+	r.Fail(2, api.ErrForm)
+	if e := r.End(); e != api.ErrLong {
+		t.Error("after a Fail that was refused:", e)
+	}
+	wantAt(t, r, 1, api.ErrLong)
+	r = reader(t, "\x05\x06")
+	r.Num(0, 9)
+	r.Fail(0, api.ErrForm)
+	if e := r.End(); e != api.ErrForm {
+		t.Error("after Fail:", e)
+	}
+	wantAt(t, r, 0, api.ErrForm)
 }
 
 // P1.2, P1.5: Fail records any error at any place up to the reader's own, and goes back there.
